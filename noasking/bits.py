@@ -12,3 +12,12 @@ def lies_below(whole, bound):
 
 def lies_in(part, whole):
     return part & whole == part
+
+
+def size(whole):
+    """How many members there are."""
+    many = 0
+    while whole > 0:
+        many = many + (whole & 1)
+        whole = whole >> 1
+    return many

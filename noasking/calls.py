@@ -15,9 +15,23 @@ AGAIN = 11
 COPIES = 12
 AHEAD = 13
 DIFFER = 14
+CAN_DO = 15
+CAN_ASK = 16
+REACH = 17
+KEEPS = 18
+BROKEN = 19
+FEWEST = 20
+CLASHES = 21
+MOST_FREE = 22
+ASKED = 23
+CLOSED = 24
+TOLD = 25
+SURE = 26
+MAY = 27
+MAY_COME = 28
+STATE = 29
 
-# How many numbers stand behind each call's own, in the order of the calls. The calls behind differ
-# are here too: ahead of begin they are refused like the others, so they have to be told apart.
+# How many numbers stand behind each call's own, in the order of the calls.
 SIZES = (2, 1, 4, 1, 1, 1, 2, 2, 1, 0, 0, 0, 0, 0, 0, 1, 0, 1, 1, 1, 0, 0, 0, 0, 0, 1, 1, 1, 1, 0)
 
 

@@ -1,18 +1,15 @@
 """The calls on one object, answered one behind another."""
 
-from noasking.calls import AGAIN, AHEAD, ALLOW, ASK, BACK, BEGIN, COPIES, DEED, DIFFER, DO, DROP, GATHER, RULE, SET
+from noasking.calls import AGAIN, ALLOW, ASK, BACK, BEGIN, CLOSED, DEED, DO, DROP, GATHER, KEEPS, RULE, SET
 from noasking.calls import take_apart
 from noasking.deeds import Deed
 from noasking.doing import ask_deed, do_deed, gather
 from noasking.history import History
-from noasking.looks import look_at_copies, look_at_straying
+from noasking.keeping import look_at_rule
+from noasking.looks import look_at_all, look_at_one
 from noasking.refusals import NOT_AS_TOLD, NOT_BEGUN
 from noasking.telling import allow_deeds, drop_deed, set_state, tell_answer, tell_deed, tell_rule
-from noasking.world import World, lies_ahead, twin
-
-
-class NotBuilt(Exception):
-    """A call that the program doesn't answer yet."""
+from noasking.world import World, twin
 
 
 def begin(history, facts, copies):
@@ -54,14 +51,12 @@ def change_and_keep(history, call, numbers):
     return answer
 
 
-def look(world, call):
-    if call == COPIES:
-        return look_at_copies(world)
-    if call == AHEAD:
-        return [lies_ahead(world)]
-    if call == DIFFER:
-        return look_at_straying(world)
-    raise NotBuilt(f"call {call!r} is not answered yet")
+def look(world, call, numbers):
+    if KEEPS <= call <= CLOSED:
+        return look_at_rule(world, call, numbers)
+    if numbers == []:
+        return look_at_all(world, call)
+    return look_at_one(world, call, numbers[0])
 
 
 def answer_call(history, call, numbers):
@@ -75,7 +70,7 @@ def answer_call(history, call, numbers):
         return [history.do_again()]
     if RULE <= call <= GATHER:
         return [change_and_keep(history, call, numbers)]
-    return look(history.world, call)
+    return look(history.world, call, numbers)
 
 
 def answers(calls):

@@ -1,6 +1,6 @@
 """Deeds: what one needs, and what comes of it."""
 
-from noasking.bits import lies_below, lies_in
+from noasking.bits import has, lies_below, lies_in
 
 
 class Deed:
@@ -28,3 +28,8 @@ def is_ready(deed, state):
 
 def outcome(deed, state):
     return (state | deed.on) & ~deed.off
+
+
+def chosen_of(deeds, chosen):
+    """Those of the deeds whose numbers are in the chosen set."""
+    return [deed for number, deed in enumerate(deeds) if has(chosen, number)]

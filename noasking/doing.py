@@ -1,6 +1,6 @@
 """The changes by which something is done: do, ask and gather.
 
-Each changes the world it is given and answers a number; where that is below 0 nothing was changed.
+Each of these changes the world it is given and answers a number; where that is below 0 nothing was changed.
 """
 
 from noasking.bits import has
@@ -20,21 +20,31 @@ def come_of(world, number, state):
     return after
 
 
-def do_deed(world, copy, number):
+def come_of_doing(world, copy, number):
+    """The state that do would answer, or why it would refuse; nothing is changed."""
     if copy >= len(world.states) or number >= len(world.deeds):
         return NONE_SUCH
     if not has(world.allowed, number):
         return NOT_ALLOWED
-    after = come_of(world, number, world.states[copy])
+    return come_of(world, number, world.states[copy])
+
+
+def come_of_asking(world, number):
+    """The state that ask would answer, or why it would refuse; nothing is changed."""
+    if number >= len(world.deeds):
+        return NONE_SUCH
+    return come_of(world, number, lies_ahead(world))
+
+
+def do_deed(world, copy, number):
+    after = come_of_doing(world, copy, number)
     if after >= 0:
         world.states[copy] = after
     return after
 
 
 def ask_deed(world, number):
-    if number >= len(world.deeds):
-        return NONE_SUCH
-    after = come_of(world, number, lies_ahead(world))
+    after = come_of_asking(world, number)
     if after >= 0:
         make_common(world, after)
     return after

@@ -12,6 +12,11 @@ def put_together(common, states):
     return common ^ changed
 
 
+def let_states(rule, facts):
+    """The states, rising, that are let."""
+    return [state for state in range(1 << facts) if has(rule, state)]
+
+
 def can_be_done(rule, deed, state):
     return is_ready(deed, state) and has(rule, outcome(deed, state))
 
@@ -23,41 +28,63 @@ def may_come_to(rule, deeds, state):
     while at < len(found):
         for deed in deeds:
             after = outcome(deed, found[at])
-            if can_be_done(rule, deed, found[at]) and after not in found:
+            if after not in found and can_be_done(rule, deed, found[at]):
                 found.append(after)
         at = at + 1
     return sorted(found)
 
 
-def all_put_together(common, first, second):
-    """What is put together of each of the first states with each of the second, rising."""
+def joined(first, second):
+    """Each of the first sets with each of the second, together."""
     found = {}
     for one in first:
         for other in second:
-            found[put_together(common, [one, other])] = True
-    return sorted(found)
+            found[one | other] = True
+    return list(found)
 
 
-def come_together(rule, deeds, common, copies):
-    """The states, rising, that so many copies may bring about from the common one."""
-    single = may_come_to(rule, deeds, common)
-    found = [common]
-    for turn in range(copies):
+def come_together(common, choices):
+    """The states, rising, that may be put together if each copy has one of the states that are its choice."""
+    changed = [0]
+    for states in choices:
         # Only which facts were changed matters, so the copies can be joined one at a time.
-        found = all_put_together(common, found, single)
-    return found
+        changed = joined(changed, [state ^ common for state in states])
+    return sorted([common ^ change for change in changed])
+
+
+def is_kept_from(rule, deeds, common, copies):
+    reached = may_come_to(rule, deeds, common)
+    return all([has(rule, state) for state in come_together(common, [reached] * copies)])
+
+
+def first_broken(rule, deeds, facts, copies):
+    """The first state that's let from which so many copies may break the rule; None if they keep it."""
+    for common in let_states(rule, facts):
+        if not is_kept_from(rule, deeds, common, copies):
+            return common
+    return None
 
 
 def is_kept(rule, deeds, facts, copies):
     """Whether the rule is kept by so many copies with these deeds."""
-    for common in range(1 << facts):
-        if has(rule, common):
-            for state in come_together(rule, deeds, common, copies):
-                if not has(rule, state):
-                    return False
+    return first_broken(rule, deeds, facts, copies) is None
+
+
+def is_closed(rule, facts):
+    """Whether what's put together of any two states that are let, from a third one, is let."""
+    let = let_states(rule, facts)
+    for common in let:
+        for state in come_together(common, [let, let]):
+            if not has(rule, state):
+                return False
     return True
 
 
-def is_free(rule, deeds, facts):
-    """Whether these deeds, with no others, keep the rule by as many copies as there are facts."""
-    return is_kept(rule, deeds, facts, facts)
+def do_clash(rule, facts, first, second):
+    """Whether two deeds, done at two copies that had one state, may bring about what isn't let."""
+    for common in let_states(rule, facts):
+        if can_be_done(rule, first, common) and can_be_done(rule, second, common):
+            states = [outcome(first, common), outcome(second, common)]
+            if not has(rule, put_together(common, states)):
+                return True
+    return False

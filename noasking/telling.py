@@ -4,13 +4,12 @@ Each changes the world it is given and answers a number; where that is below 0 n
 """
 
 from noasking.bits import has, lies_below
-from noasking.deeds import is_sound
+from noasking.deeds import chosen_of, is_sound
+from noasking.freedom import is_free
 from noasking.refusals import NONE_SUCH, NOT_AS_TOLD, NOT_LET, NOT_TOGETHER, TOO_MANY
-from noasking.rules import is_free
-from noasking.world import are_together, make_common
+from noasking.world import ALL_THINGS, are_together, make_common
 
 MOST_DEEDS = 6
-MOST_TOLD = 7
 
 
 def tell_rule(world, rule):
@@ -52,8 +51,7 @@ def allow_deeds(world, chosen):
         return NOT_TOGETHER
     if not lies_below(chosen, len(world.deeds)):
         return NOT_AS_TOLD
-    deeds = [deed for number, deed in enumerate(world.deeds) if has(chosen, number)]
-    if not is_free(world.rule, deeds, world.facts):
+    if not is_free(world.rule, chosen_of(world.deeds, chosen), world.facts):
         return NOT_LET
     before = world.allowed
     world.allowed = chosen
@@ -73,7 +71,7 @@ def set_state(world, state):
 
 
 def tell_answer(world, state, things):
-    if not lies_below(state, world.facts) or things > MOST_TOLD:
+    if not lies_below(state, world.facts) or things > ALL_THINGS:
         return NOT_AS_TOLD
     before = world.told[state]
     world.told[state] = things

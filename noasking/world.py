@@ -1,6 +1,10 @@
 """All that stands at one time: facts, rule, deeds, what is allowed and told, and the copies."""
 
-from noasking.rules import put_together
+from noasking.deeds import chosen_of
+from noasking.rules import come_together, may_come_to, put_together
+
+# The set of the three things that may be told of a state.
+ALL_THINGS = 7
 
 
 class World:
@@ -39,6 +43,18 @@ def are_together(world):
 
 def lies_ahead(world):
     return put_together(world.common, world.states)
+
+
+def reached_from(world, state):
+    """The states, rising, to which a copy may come from this one by allowed deeds."""
+    return may_come_to(world.rule, chosen_of(world.deeds, world.allowed), state)
+
+
+def may_come_of(world, copy):
+    """The states, rising, that may come, as this copy can know."""
+    # Of the others a copy knows only where they set out, not what they have done since.
+    others = [reached_from(world, world.common)] * (len(world.states) - 1)
+    return come_together(world.common, [[world.states[copy]]] + others)
 
 
 def make_common(world, state):

@@ -11,6 +11,10 @@ SIZES = dict.fromkeys(NAMES, 0) | {
     "can_do": 1, "reach": 1, "keeps": 1, "broken": 1, "told": 1, "sure": 1, "may": 1, "may_come": 1,
 }
 LARGEST = 2147483647
+LOOKS = NAMES[NAMES.index("copies"):]
+# The looks that are told a copy, and those that are told how many copies.
+AT_A_COPY = ("can_do", "reach", "told", "sure", "may", "may_come")
+BY_COPIES = ("keeps", "broken")
 
 
 def call(text):
@@ -52,3 +56,27 @@ def last(*lines):
 def firsts(*lines):
     """The first number that's answered to each call."""
     return [answered[0] for answered in run(*lines)]
+
+
+def all_looks(copies):
+    """Every look, at each copy, and by each number of copies."""
+    found = []
+    for name in LOOKS:
+        if name in AT_A_COPY:
+            found += [f"{name} {copy}" for copy in range(copies)]
+        elif name in BY_COPIES:
+            found += [f"{name} {many}" for many in range(1, 5)]
+        else:
+            found.append(name)
+    return found
+
+
+def seen(line, copies):
+    """All that can be seen behind a line, each look with its answer; no line is longer than 60 calls."""
+    room = 60 - len(line.split(","))
+    looks = all_looks(copies)
+    found = {}
+    for at in range(0, len(looks), room):
+        some = looks[at:at + room]
+        found |= zip(some, run(line, *some)[-len(some):])
+    return found

@@ -2,7 +2,7 @@
 
 import unittest
 
-from lines import firsts, last, run
+from lines import LOOKS, SIZES, firsts, last, run, seen
 
 # Two facts, three copies, deed 0 makes fact 0 so, deed 1 makes fact 1 so; both are allowed.
 READY = "begin 2 3, deed 0 0 1 0, deed 0 0 2 0, allow 3"
@@ -24,7 +24,7 @@ def looks_behind(line):
     """All that can be seen behind a line: the looks, and what the tries answer on the way."""
     tries = ("set 3", "set 0", "allow 3", "allow 0", "allow 7", "drop 2", "do 0 0", "do 0 1", "ask 0", "ask 1",
              "ask 2", "answer 0 0", "gather")
-    return [run(line, "copies, ahead, differ")[-3:]] + [last(line, one) for one in tries]
+    return [seen(line, 3)] + [last(line, one) for one in tries]
 
 
 class BackAndAgain(unittest.TestCase):
@@ -114,7 +114,8 @@ class ChangeBehindBack(unittest.TestCase):
                 self.assertEqual(last(READY, "answer 3 3, back", change, "again"), [-2])
 
     def test_a_refusal_or_a_look_does_not_end_it(self):
-        for call in ("set 4", "copies", "ahead", "differ", "do 3 0", "begin 0 0"):
+        looks = [" ".join([name] + ["1"] * SIZES[name]) for name in LOOKS]
+        for call in ("set 4", "do 3 0", "begin 0 0", "may_come 2", "keeps 0", "broken 5", *looks):
             with self.subTest(call):
                 self.assertEqual(last("begin 2 2, set 1, set 2, back, back", call, "again"), [1])
 
@@ -166,6 +167,17 @@ class TakenBackToWhereTheyDiffered(unittest.TestCase):
 
     def test_what_was_allowed_is_allowed_there(self):
         self.assertEqual(firsts(self.LINE, "gather, drop 0, back, back, do 1 0, do 1 1, ahead")[8:], [6, 5, 1, 3, 3])
+
+    def test_every_look_answers_as_it_did(self):
+        line = f"{self.LINE}, answer 0 1, answer 2 3, answer 3 7"
+        there = seen(line, 3)
+        self.assertEqual([there[look] for look in ("sure 0", "sure 1", "sure 2", "may_come 0", "reach 2", "can_do 1")],
+                         [[0], [0], [3], [2, 1, 3], [2, 2, 3], [2, 0, 1]])
+        for change in ("gather", "ask 1", "do 1 0", "answer 3 0"):
+            with self.subTest(change):
+                self.assertNotEqual(seen(f"{line}, {change}", 3), there)
+                self.assertEqual(seen(f"{line}, {change}, back", 3), there)
+                self.assertEqual(seen(f"{line}, {change}, back, again, back", 3), there)
 
     def test_again_leads_to_where_they_differed(self):
         self.assertEqual(run(self.LINE, "back, back, differ, again, again, copies")[6:],

@@ -2,7 +2,7 @@
 
 import unittest
 
-from lines import LARGEST, NAMES, SIZES, firsts, last, run
+from lines import LARGEST, NAMES, SIZES, firsts, last, run, seen
 
 
 def with_ones(name):
@@ -64,6 +64,16 @@ class Begin(unittest.TestCase):
         line = ",".join(f"answer {state} 7" for state in range(16))
         self.assertEqual(firsts("begin 4 2", line), [0] * 17)
 
+    def test_every_look_right_behind_it(self):
+        self.assertEqual(seen("begin 1 2", 2), {
+            "copies": [2, 0, 0, 0], "ahead": [0], "differ": [0], "can_do 0": [0], "can_do 1": [0], "can_ask": [0],
+            "reach 0": [1, 0], "reach 1": [1, 0], "keeps 1": [1], "keeps 2": [1], "keeps 3": [1], "keeps 4": [1],
+            "broken 1": [-33], "broken 2": [-33], "broken 3": [-33], "broken 4": [-33], "fewest": [-33],
+            "clashes": [0], "most_free": [1, 0], "asked": [0, 0], "closed": [1], "told 0": [0], "told 1": [0],
+            "sure 0": [0], "sure 1": [0], "may 0": [0], "may 1": [0], "may_come 0": [1, 0], "may_come 1": [1, 0],
+            "state": [1, 2, 3, 0, 0],
+        })
+
     def test_nothing_to_take_back_or_do_again(self):
         self.assertEqual(firsts("begin 2 2, back, again"), [0, -2, -2])
 
@@ -75,6 +85,13 @@ class SecondBegin(unittest.TestCase):
         self.assertEqual(firsts(self.FULL, "begin 3 2, set 7, ask 0, allow 1, answer 2 1, set 0")[8:],
                          [0, 0, -2, -22, 0, 7])
         self.assertEqual(last(self.FULL, "begin 3 2, copies"), [2, 0, 0, 0])
+
+    def test_all_is_new_in_every_look(self):
+        self.assertEqual(seen(f"{self.FULL}, begin 3 2", 2), seen("begin 3 2", 2))
+        self.assertEqual(seen(f"{self.FULL}, begin 2 3", 3), seen("begin 2 3", 3))
+
+    def test_refused_every_look_answers_as_it_did(self):
+        self.assertEqual(seen(f"{self.FULL}, begin 2 1, begin 0 3", 3), seen(self.FULL, 3))
 
     def test_it_is_taken_while_the_copies_differ(self):
         self.assertEqual(run(self.FULL, "differ, begin 2 3, differ")[8:], [[1, 1], [0], [0]])

@@ -34,6 +34,15 @@ EXPRESSIONS = (
 )
 
 
+KEYWORDS = {"sorted": {"key", "reverse"}, "min": {"key", "default"}, "max": {"key", "default"}, "sum": {"start"},
+            "enumerate": {"start"}, "zip": {"strict"}}
+WALKED = {"zip", "enumerate", "reversed", "range"}
+WALKED_METHODS = {"items", "keys", "values"}
+WALKERS = {"list", "tuple", "dict", "sorted", "sum", "any", "all", "enumerate", "zip", "min", "max"}
+NOT_VALUES = set("items keys values pop update append clear extend insert remove reverse setdefault sort args encode "
+                 "format".split())
+
+
 def line_faults(text):
     """Faults that are seen line by line, as a rule's name and a line's number."""
     found = []
@@ -98,6 +107,68 @@ def expression_fault(node):
     return None
 
 
+def called(node):
+    """By what name something is called, and whether as a method."""
+    if isinstance(node, ast.Call) and isinstance(node.func, (ast.Name, ast.Attribute)):
+        method = isinstance(node.func, ast.Attribute)
+        return (node.func.attr if method else node.func.id), method
+    return None, False
+
+
+def walked_on_the_spot(tree):
+    """All that stands where a walk begins."""
+    for node in ast.walk(tree):
+        if isinstance(node, (ast.For, ast.comprehension)):
+            yield node.iter
+        elif called(node)[0] in WALKERS and not called(node)[1] and node.args:
+            yield node.args[0]
+
+
+def walk_faults(tree):
+    spots = {id(node) for node in walked_on_the_spot(tree)}
+    for node in ast.walk(tree):
+        name, method = called(node)
+        if name in (WALKED_METHODS if method else WALKED) and id(node) not in spots:
+            yield "L23", node.lineno
+
+
+def call_faults(tree):
+    for node in ast.walk(tree):
+        name, method = called(node)
+        if isinstance(node, ast.Call) and node.keywords:
+            if method or not {one.arg for one in node.keywords} <= KEYWORDS.get(name, set()):
+                yield "L22", node.lineno
+        if name in ("set", "frozenset") and not method or isinstance(node, ast.Set):
+            yield "L24", node.lineno
+        if isinstance(node, ast.Constant) and isinstance(node.value, str) and "%" in node.value:
+            yield "L27", node.lineno
+        if isinstance(node, ast.Attribute) and isinstance(node.ctx, ast.Store) and node.attr in NOT_VALUES:
+            yield "L26", node.lineno
+        if isinstance(node, ast.FunctionDef) and node.name == "__init__":
+            if any(isinstance(one, ast.Return) and one.value for one in ast.walk(node)):
+                yield "L28", node.lineno
+
+
+def is_plain(node):
+    if isinstance(node, ast.UnaryOp):
+        return isinstance(node.op, ast.USub) and is_plain(node.operand)
+    return isinstance(node, ast.Constant) or isinstance(node, ast.Tuple) and all(map(is_plain, node.elts))
+
+
+def top_faults(tree):
+    """What stands at a file's top: a docstring, then imports, then plain values, functions and classes."""
+    for at, node in enumerate(tree.body):
+        docstring = at == 0 and isinstance(node, ast.Expr) and isinstance(node.value, ast.Constant)
+        if isinstance(node, ast.ImportFrom):
+            if any(not isinstance(one, (ast.ImportFrom, ast.Expr)) for one in tree.body[:at]):
+                yield "L2", node.lineno
+        elif isinstance(node, ast.Assign):
+            if not is_plain(node.value):
+                yield "L3", node.lineno
+        elif not docstring and not isinstance(node, (ast.FunctionDef, ast.ClassDef)):
+            yield "L3", node.lineno
+
+
 def names_bound(tree):
     """Every name that is bound in a file, with its line."""
     for node in ast.walk(tree):
@@ -131,6 +202,7 @@ def faults(text):
         elif isinstance(node, ast.expr):
             found.append((expression_fault(node), node.lineno))
     found.extend((name_fault(name), line) for name, line in names_bound(tree))
+    found.extend([*walk_faults(tree), *call_faults(tree), *top_faults(tree)])
     return sorted((rule, line) for rule, line in found if rule)
 
 
@@ -199,6 +271,48 @@ class ThePackage(unittest.TestCase):
             drawn = {stem: others for stem, others in drawn.items() if stem not in free}
 
 
+    def test_names_are_drawn_from_the_file_that_defines_them_and_used(self):
+        trees = {path.stem: ast.parse(path.read_text()) for path in files()}
+        defined = {stem: {name for node in tree.body if not isinstance(node, ast.ImportFrom)
+                          for name in top_names(node)} for stem, tree in trees.items()}
+        for stem, tree in trees.items():
+            used = {node.id for node in ast.walk(tree) if isinstance(node, ast.Name)}
+            for node in tree.body:
+                if isinstance(node, ast.ImportFrom):
+                    names = {one.name for one in node.names}
+                    with self.subTest(stem, module=node.module):
+                        self.assertLessEqual(names, defined[node.module.split(".")[1]])
+                        self.assertLessEqual(names, used)
+
+    def test_every_function_is_used(self):
+        trees = [ast.parse(path.read_text()) for path in files()]
+        defined = {node.name for tree in trees for node in ast.walk(tree) if isinstance(node, ast.FunctionDef)}
+        used = {node.id for tree in trees for node in ast.walk(tree) if isinstance(node, ast.Name)}
+        used |= {node.attr for tree in trees for node in ast.walk(tree) if isinstance(node, ast.Attribute)}
+        self.assertEqual(defined - used - {"__init__"}, {"answers"})
+
+    def test_no_name_is_a_method_and_a_value(self):
+        trees = [ast.parse(path.read_text()) for path in files()]
+        methods = {one.name for tree in trees for node in tree.body if isinstance(node, ast.ClassDef)
+                   for one in node.body if isinstance(one, ast.FunctionDef)}
+        values = {node.attr for tree in trees for node in ast.walk(tree)
+                  if isinstance(node, ast.Attribute) and isinstance(node.ctx, ast.Store)}
+        self.assertEqual(methods & values, set())
+
+    def test_a_class_holds_methods_alone(self):
+        for path in files():
+            for node in ast.parse(path.read_text()).body:
+                if isinstance(node, ast.ClassDef):
+                    for at, one in enumerate(node.body):
+                        self.assertTrue(isinstance(one, ast.FunctionDef) or at == 0 and isinstance(one, ast.Expr))
+
+
+def top_names(node):
+    if isinstance(node, ast.Assign):
+        return [target.id for target in node.targets]
+    return [node.name] if isinstance(node, (ast.FunctionDef, ast.ClassDef)) else []
+
+
 class TheReading(unittest.TestCase):
     """Each fault is found in a text that has it; else the tests above would show nothing."""
 
@@ -221,6 +335,16 @@ class TheReading(unittest.TestCase):
         self.assertEqual(self.rules("# \x7f\n"), ["L14"])
         self.assertEqual(self.rules("# a\r\n"), ["L14"])
 
+    def test_what_is_let(self):
+        for text in (
+            "A = -1\nB = (1, 'a', (2, 3))\n", "def f(x):\n    return sorted(x, key=len, reverse=True)\n",
+            "def f(x):\n    for y in range(x):\n        pass\n", "def f(d):\n    return [k for k in d.items()]\n",
+            "def f(x):\n    return list(zip(x, x, strict=True))\n",
+            "class A:\n    def __init__(self):\n        return\n",
+        ):
+            with self.subTest(text):
+                self.assertEqual(self.rules(text), [])
+
     def test_the_other_rules(self):
         for rule, text in (
             ("L2", "from os.path import join\n"), ("L2", "from .copies import answers\n"), ("L6", "import sys\n"),
@@ -230,7 +354,14 @@ class TheReading(unittest.TestCase):
             ("L7", "a = [b for c in d for b in c]\n"), ("L8", "a = map\n"), ("L8", "a = chr(1)\n"),
             ("L12", "a_ = 1\nb__a = 2\n_c = 3\n"), ("L15", "def f(next):\n    pass\n"), ("L17", "# a type\n"),
             ("L17", "def register():\n    pass\n"), ("L20", "a = b is c\n"), ("L21", "def f(a: int):\n    pass\n"),
-            ("L27", "a = 2 ** b\n"),
+            ("L27", "a = 2 ** b\n"), ("L27", "a = '%'\n"), ("L3", "a = f()\n"), ("L3", "a = [1]\nb = [a]\n"),
+            ("L3", "print()\n"), ("L3", "if a:\n    b = 1\n"), ("L2", "a = 1\nfrom noasking.bits import has\n"),
+            ("L22", "def f(x):\n    return sorted(x, keys=f)\n"), ("L22", "def f(x):\n    x.pop(k=1)\n"),
+            ("L23", "def f():\n    x = range(3)\n"), ("L23", "def f(d):\n    return d.items()\n"),
+            ("L23", "def f(x):\n    for y in reversed(range(x)):\n        pass\n"),
+            ("L24", "def f(x):\n    return set(x)\n"), ("L24", "def f(x):\n    return x in {1, 2}\n"),
+            ("L26", "def f(x):\n    x.items = 1\n"),
+            ("L28", "class A:\n    def __init__(self):\n        return None\n"),
         ):
             with self.subTest(text):
                 self.assertIn(rule, self.rules(text))

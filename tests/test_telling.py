@@ -69,7 +69,8 @@ class Rule(unittest.TestCase):
                          [0, 0, -33, 0, 0, -33, -33, 2])
 
     def test_refused_the_rule_stays(self):
-        self.assertEqual(firsts("begin 2 2, rule 7, rule 8, set 3, rule 31, set 3, set 2"), [0, 0, -33, -33, -22, -33, 0])
+        self.assertEqual(firsts("begin 2 2, rule 7, rule 8, set 3, rule 31, set 3, set 2"),
+                         [0, 0, -33, -33, -22, -33, 0])
 
     def test_behind_it_no_deeds_are_allowed(self):
         self.assertEqual(firsts(TWO_DEEDS, "allow 3, rule 15, do 0 0, do 0 1, allow 3")[3:], [0, 0, -35, -35, 0])
